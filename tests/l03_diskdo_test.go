@@ -337,9 +337,14 @@ func TestDiskDoWithoutPlace(t *testing.T) {
 			}
 		}
 	}
-	for _, d := range []impl.Disk{narrowDisk(impl.MaxNodes-1, 0, 100), narrowDisk(1, 0, impl.MaxId-1), narrowDisk(1, impl.MaxTurns-2, 100)} {
+	for _, d := range []impl.Disk{narrowDisk(impl.MaxNodes-1, 0, 100), narrowDisk(1, 0, impl.MaxId-1), narrowDisk(1, impl.MaxTurns-1, 100)} {
 		if _, code := wantModel(t, d, opCreate("new")); code != 0 {
 			t.Errorf("a create with place for one has code %d", code)
+		}
+	}
+	for _, op := range []impl.Op{opRename("b", "new"), opRemove("b")} {
+		if _, code := wantModel(t, narrowDisk(1, impl.MaxTurns-1, 100), op); code != 0 {
+			t.Errorf("kind %d with place for one turn has code %d", op.Kind, code)
 		}
 	}
 }
